@@ -1,0 +1,1 @@
+"""Which light it was, by what was seen."""
