@@ -1,4 +1,4 @@
-"""Keeps lights and what was seen when, and tells which of the lights it may be."""
+"""Keeps lights and what was seen when; tells which lights it may be, and when to look."""
 
 MOST_BYTES = 1024
 MOST_PHASES = 32
@@ -8,10 +8,15 @@ MOST_LIGHTS = 16
 MOST_SEEN = 100
 LAST_TIME = 1000000
 LAST_COLOUR = 4
+# The tenths to the next change of a colour that never changes: twice the longest
+# rhythm, as look never goes on for longer.
+NEVER = 12000
 
 OUT_OF_RANGE = -1
 TOO_LONG = -2
 OTHER_COLOUR = -3
+NO_LOOK_TELLS = -3
+NOT_SURE = -3
 NO_SUCH_LIGHT = -4
 FULL = -5
 FAULTY = -6
@@ -20,8 +25,11 @@ LIGHT = 0
 SEE = 1
 FORGET = 2
 FITS = 3
+WHICH = 4
+EXPECT = 5
+LOOK = 6
 # By the calls' numbers; light is not among them, as its length stands in the call itself.
-CALL_LENGTHS = {1: 3, 2: 1, 3: 2}
+CALL_LENGTHS = {1: 3, 2: 1, 3: 2, 4: 1, 5: 2, 6: 2, 7: 1}
 
 BLANK = 32
 NOUGHT = 48
@@ -100,26 +108,108 @@ def one_period(colours):
     return colours
 
 
-class Light:
-    """A rhythm, and the k, rising, so that it may be what was seen k later.
+def tenths_to_change(colours):
+    """At each tenth of the period, how many tenths there are to the next other colour."""
+    period = len(colours)
+    if period == 1:
+        return [NEVER]
+    lasts = [0] * period
+    left = 0
+    # Twice round, as what is at the end of the period goes on at its beginning.
+    for place in range(2 * period - 1, -1, -1):
+        here = place % period
+        left = left + 1 if colours[here] == colours[(here + 1) % period] else 1
+        lasts[here] = left
+    return lasts
 
-    The k are kept and not found anew for each call, as with long rhythms and
-    much seen that would be most of the work.
+
+def first_run_from(runs, k):
+    """The place of the first of the runs, rising, that has a k not below this, or their number."""
+    low = 0
+    high = len(runs)
+    # By halving, as expect and look ask for it often.
+    while low < high:
+        middle = (low + high) // 2
+        if runs[middle][1] > k:
+            high = middle
+        else:
+            low = middle + 1
+    return low
+
+
+class Light:
+    """A rhythm, and the k so that it may be what was seen k later.
+
+    The k are kept as runs, rising: the first k, and the one behind the last. With at
+    most 32 phases there are few runs where there are thousands of k.
     """
 
     def __init__(self, colours):
         self.colours = colours
-        self.starts = list(range(len(colours)))
+        self.lasts = tenths_to_change(colours)
+        self.runs = [(0, len(colours))]
 
     def widen(self):
         """Nothing is seen any more: every k below the period fits again."""
-        self.starts = list(range(len(self.colours)))
+        self.runs = [(0, len(self.colours))]
 
     def narrow(self, time, colour):
         """Keep only the k at which it shows this colour at this time."""
-        turn = time % len(self.colours)
-        turned = self.colours[turn:] + self.colours[:turn]
-        self.starts = [k for k in self.starts if turned[k] == colour]
+        period = len(self.colours)
+        left = []
+        for first, behind in self.runs:
+            k = first
+            while k < behind:
+                place = (time + k) % period
+                end = min(behind, k + self.lasts[place])
+                if self.colours[place] == colour:
+                    left.append((k, end))
+                k = end
+        self.runs = left
+
+    def how_many(self):
+        """How many k fit."""
+        return sum([behind - first for first, behind in self.runs])
+
+    def last_places(self, time):
+        """Where in the rhythm it may be at this time: of each stretch of one colour the last such place."""
+        period = len(self.colours)
+        places = []
+        end = 0
+        number = 0
+        while number < len(self.runs):
+            k = max(end, self.runs[number][0])
+            end = k + self.lasts[(time + k) % period]
+            number = first_run_from(self.runs, end)
+            # A run that goes on beyond the end fills the stretch up to it; else the one ahead is its last.
+            if number < len(self.runs) and self.runs[number][0] < end:
+                last = end - 1
+            else:
+                last = self.runs[number - 1][1] - 1
+            places.append((time + last) % period)
+        return places
+
+    def shown_at(self, time):
+        """The colours that it may show at this time, each once."""
+        return sorted(set([self.colours[place] for place in self.last_places(time)]))
+
+    def steady(self, time):
+        """How many tenths from this time on it goes on, for each of the k, as it then shows."""
+        return min([self.lasts[place] for place in self.last_places(time)])
+
+
+def count_colours(lights, time):
+    """Of each colour, how many of the lights may show it at this time."""
+    counts = [0] * (LAST_COLOUR + 1)
+    for kept in lights:
+        for colour in kept.shown_at(time):
+            counts[colour] = counts[colour] + 1
+    return counts
+
+
+def tells_something(counts):
+    """Whether more than one colour may be shown."""
+    return len([count for count in counts if count > 0]) > 1
 
 
 class Watch:
@@ -169,10 +259,52 @@ class Watch:
         """Tell how many k fit the light of this number, the least and the greatest."""
         if number >= len(self.lights):
             return [NO_SUCH_LIGHT]
-        starts = self.lights[number].starts
-        if len(starts) == 0:
+        kept = self.lights[number]
+        if len(kept.runs) == 0:
             return [0]
-        return [len(starts), starts[0], starts[-1]]
+        return [kept.how_many(), kept.runs[0][0], kept.runs[-1][1] - 1]
+
+    def possible(self):
+        """The numbers of the lights that may be it, rising."""
+        return [number for number, kept in enumerate(self.lights) if len(kept.runs) > 0]
+
+    def which(self):
+        """Tell how many lights may be it, and their numbers."""
+        numbers = self.possible()
+        return [len(numbers)] + numbers
+
+    def expect(self, time):
+        """Tell of each colour how many lights may show it at this time."""
+        if time > LAST_TIME:
+            return [OUT_OF_RANGE]
+        return [0] + count_colours(self.lights, time)
+
+    def look(self, time):
+        """Tell the first time from this one on at which a look tells something."""
+        if time > LAST_TIME:
+            return [OUT_OF_RANGE]
+        lights = [self.lights[number] for number in self.possible()]
+        longest = max([len(kept.colours) for kept in lights], default=0)
+        # Two rhythms that are alike for as long as both periods together are alike
+        # for ever (Fine and Wilf), so nothing new comes behind that.
+        end = time + 2 * longest
+        while time < end:
+            counts = count_colours(lights, time)
+            if tells_something(counts):
+                return [time] + counts
+            # All show one colour, and go on so until the first of them changes.
+            time = time + min([kept.steady(time) for kept in lights])
+        return [NO_LOOK_TELLS]
+
+    def sure(self):
+        """Tell the only light that may be it, how many k fit, and the k if it is one."""
+        numbers = self.possible()
+        if len(numbers) != 1:
+            return [NOT_SURE]
+        kept = self.lights[numbers[0]]
+        if kept.how_many() == 1:
+            return [numbers[0], 1, kept.runs[0][0]]
+        return [numbers[0], kept.how_many()]
 
 
 def call_length(calls, place):
@@ -190,7 +322,15 @@ def answer(watch, call):
         return watch.see(call[1], call[2])
     if call[0] == FORGET:
         return watch.forget()
-    return watch.fits(call[1])
+    if call[0] == FITS:
+        return watch.fits(call[1])
+    if call[0] == WHICH:
+        return watch.which()
+    if call[0] == EXPECT:
+        return watch.expect(call[1])
+    if call[0] == LOOK:
+        return watch.look(call[1])
+    return watch.sure()
 
 
 def answers(calls):

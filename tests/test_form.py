@@ -13,12 +13,18 @@ NODES = (
     "Module FunctionDef ClassDef arguments arg Return Assign AugAssign For While If Raise Try ExceptHandler Expr "
     "Pass Break Continue BoolOp BinOp UnaryOp Lambda IfExp Dict ListComp comprehension Compare Call Constant "
     "Attribute Subscript Name List Tuple Slice Load Store And Or Add Sub Mult FloorDiv Mod BitAnd BitOr BitXor "
-    "LShift RShift Invert Not USub UAdd Eq NotEq Lt LtE Gt GtE Is IsNot In NotIn"
+    "LShift RShift Invert Not USub UAdd Eq NotEq Lt LtE Gt GtE Is IsNot In NotIn keyword"
 ).split()
 OWN_OF_PYTHON = (
-    "len range enumerate zip min max sum abs sorted reversed int str bool list tuple dict isinstance ord any all "
-    "divmod KeyError ValueError"
+    "len range enumerate zip min max sum abs sorted reversed int str bool list tuple dict set isinstance ord any "
+    "all divmod KeyError ValueError"
 ).split()
+KEYWORDS = {
+    "sorted": ("key", "reverse"), "min": ("key", "default"), "max": ("key", "default"),
+    "sum": ("start",), "enumerate": ("start",), "zip": ("strict",),
+}
+# Where a walk over range, zip and their like may stand, but behind the "in" of a loop.
+WALKERS = "list tuple dict sorted sum any all enumerate zip min max".split()
 METHODS = (
     "append clear copy count extend find get index insert items keys pop remove reverse setdefault update values"
 ).split()
@@ -30,6 +36,10 @@ WORDS = re.compile(
 
 def nodes_of(tree, kind):
     return [node for node in ast.walk(tree) if isinstance(node, kind)]
+
+
+def name_called(call):
+    return getattr(call.func, "id", getattr(call.func, "attr", None))
 
 
 def names_bound(tree):
@@ -69,6 +79,41 @@ class Form(unittest.TestCase):
                 self.assertEqual(len(node.targets), 1)
             for node in nodes_of(tree, (ast.FunctionDef, ast.ClassDef)):
                 self.assertEqual(node.decorator_list, [])
+
+    def test_keywords_only_where_they_may_stand(self):
+        for text, tree in self.each():
+            for call in nodes_of(tree, ast.Call):
+                allowed = KEYWORDS.get(getattr(call.func, "id", None), ())
+                self.assertEqual([word.arg for word in call.keywords if word.arg not in allowed], [])
+
+    def test_a_set_is_neither_kept_nor_walked(self):
+        for text, tree in self.each():
+            within = [call.args[0] for call in nodes_of(tree, ast.Call) if name_called(call) in ("sorted", "len")]
+            for call in nodes_of(tree, ast.Call):
+                if name_called(call) in ("set", "frozenset"):
+                    self.assertIn(call, within)
+
+    def test_what_is_made_to_be_walked_is_walked_at_once(self):
+        for text, tree in self.each():
+            walked = [node.iter for node in nodes_of(tree, (ast.For, ast.comprehension))]
+            walked += [call.args[0] for call in nodes_of(tree, ast.Call) if name_called(call) in WALKERS]
+            for call in nodes_of(tree, ast.Call):
+                if name_called(call) in ("zip", "enumerate", "reversed", "range", "items", "keys", "values"):
+                    self.assertIn(call, walked)
+
+    def test_the_top_holds_plain_values(self):
+        for text, tree in self.each():
+            for node in tree.body:
+                if isinstance(node, ast.Assign):
+                    ast.literal_eval(node.value)
+                else:
+                    self.assertIsInstance(node, (ast.Expr, ast.FunctionDef, ast.ClassDef))
+
+    def test_no_name_is_both_a_method_and_a_value(self):
+        for text, tree in self.each():
+            methods = {node.name for top in nodes_of(tree, ast.ClassDef) for node in nodes_of(top, ast.FunctionDef)}
+            kept = {node.attr for node in nodes_of(tree, ast.Attribute) if isinstance(node.ctx, ast.Store)}
+            self.assertEqual(sorted(methods & kept), [])
 
     def test_nothing_is_imported(self):
         for text, tree in self.each():
